@@ -4,59 +4,8 @@ import unittest
 
 from shortheld.store import Store, store_of, symbol_lengths
 from shortheld.text import Text
-from tests.helpers import SlowStore, letter_at, random_rules, rng_of, size_made
-
-MANY = 10 ** 10
-
-
-def retold(rules):
-    """Other rules that make the same letters: all that a rule makes is told backwards, and cut in two."""
-    out = []
-    at = []
-    sizes = []
-    for rule in rules:
-        word, numbers = rule[0], [at[number] for number in rule[1:3]] if rule[0] == "join" else []
-        if word == "letters":
-            out.append((word, rule[1][::-1]))
-        elif word == "join":
-            out.append((word, numbers[1], numbers[0]))
-        elif word == "power":
-            out += power_retold(at[rule[1]], rule[2], len(out))
-        elif word == "part":
-            size = sizes[rule[1]]
-            out.append((word, at[rule[1]], size - rule[3], size - rule[2]))
-        else:
-            out += [("back", at[rule[1]])]
-        sizes.append(size_made(rule, sizes))
-        cut = sizes[-1] // 3
-        last = len(out) - 1
-        out += [("part", last, 0, cut), ("part", last, cut, sizes[-1]), ("join", last + 1, last + 2)]
-        at.append(len(out) - 1)
-    return out + [("back", at[-1])]
-
-
-def power_retold(base, times, number):
-    """A power as a power of one time fewer and the base, behind so many rules."""
-    if times == 0:
-        return [("power", base, 0)]
-    return [("power", base, times - 1), ("join", base, number)]
-
-
-def great_rules(rng):
-    """Rules of a great text."""
-    rules = [("letters", "".join([rng.choice("abc") for _ in range(rng.randint(1, 9))])) for _ in range(3)]
-    sizes = [len(rule[1]) for rule in rules]
-    while len(rules) < 25:
-        word = rng.choice(("join", "power", "part", "back"))
-        first, second = [rng.randrange(max(0, len(rules) - 4), len(rules)) for _ in range(2)]
-        rule = {"join": (word, first, second), "power": (word, first, rng.choice((2, 3, 7, 1000, MANY))),
-                "part": (word, first, rng.randint(0, sizes[first] // 3), sizes[first] - rng.randint(0, sizes[first] // 3)),
-                "back": (word, first)}[word]
-        size = size_made(rule, sizes)
-        if size <= 10 ** 12:
-            rules.append(rule)
-            sizes.append(size)
-    return rules
+from tests.great import MANY, great_rules, retold
+from tests.helpers import SlowStore, letter_at, random_rules, rng_of
 
 
 class GreatTest(unittest.TestCase):

@@ -1,0 +1,79 @@
+"""What the package answers on rules, counted letter by letter on strings."""
+
+
+def common_from(first, start, second, at):
+    many = 0
+    while start + many < len(first) and at + many < len(second) and first[start + many] == second[at + many]:
+        many += 1
+    return many
+
+
+def common_to(first, stop, second, at):
+    return common_from(first[:stop][::-1], 0, second[:at][::-1], 0)
+
+
+def mismatches(pattern, string, place, limit):
+    if place + len(pattern) > len(string):
+        return None
+    return tuple([k for k, letter in enumerate(pattern) if letter != string[place + k]][:limit])
+
+
+def numbers_of(rows):
+    """The numbers of some progressions."""
+    return [first + step * k for first, step, count in rows for k in range(count)]
+
+
+def cut(numbers):
+    """The progressions of D1, number by number."""
+    rows = []
+    for number in numbers:
+        if rows and len(rows[-1]) < 2 or rows and number == 2 * rows[-1][-1] - rows[-1][-2]:
+            rows[-1].append(number)
+        else:
+            rows.append([number])
+    return tuple([(row[0], row[1] - row[0] if len(row) > 1 else 0, len(row)) for row in rows])
+
+
+def occurrences(pattern, string):
+    return [place for place in range(len(string) - len(pattern) + 1) if string.startswith(pattern, place)]
+
+
+def around(pattern, string, place):
+    found = [first for first in occurrences(pattern, string) if first <= place < first + len(pattern)]
+    distances = sorted({right - left for left, right in zip(found, found[1:])}) or [0]
+    assert len(distances) == 1
+    return (found[0] if found else None, distances[0], len(found))
+
+
+def overlaps(first, second):
+    return [many for many in range(1, min(len(first), len(second)) + 1) if first[-many:] == second[:many]]
+
+
+def count_in_rules(pattern, rules):
+    """How often a short pattern stands in the text of great rules without parts and without texts turned round."""
+    most = len(pattern) - 1
+    made = []
+    for rule in rules:
+        if rule[0] == "letters":
+            made.append(counted(pattern, rule[1], most))
+        elif rule[0] == "join":
+            made.append(joined(pattern, made[rule[1]], made[rule[2]], most))
+        else:
+            power, square, times = counted(pattern, "", most), made[rule[1]], rule[2]
+            while times:
+                if times % 2:
+                    power = joined(pattern, power, square, most)
+                square, times = joined(pattern, square, square, most), times // 2
+            made.append(power)
+    return made[-1][0]
+
+
+def counted(pattern, string, most):
+    """The count in a string, and its first and its last letters, as many as can have part in other occurrences."""
+    return (len(occurrences(pattern, string)), string[:most], string[max(0, len(string) - most):])
+
+
+def joined(pattern, first, second, most):
+    crossing = len(occurrences(pattern, first[2] + second[1]))
+    return (first[0] + second[0] + crossing, (first[1] + second[1])[:most] if len(first[1]) < most else first[1],
+            (first[2] + second[2])[-most:] if most and len(second[2]) < most else second[2])
