@@ -38,20 +38,14 @@ def same(first, second):
 
 def first_difference(first, second):
     """The first place at which two texts differ, None if they are the same."""
-    place = common_from(first, 0, second, 0)
-    return None if place == first.length == second.length else place
+    trees = Trees([first, second])
+    return trees.difference(trees.roots[0], trees.roots[1])
 
 
 def compare(first, second):
     """-1 if the first text comes ahead of the second one, 1 if it comes behind it, 0 if they are the same."""
-    place = first_difference(first, second)
-    if place is None:
-        return 0
-    if place == first.length:
-        return -1
-    if place == second.length:
-        return 1
-    return -1 if first.letter(place) < second.letter(place) else 1
+    trees = Trees([first, second])
+    return trees.order(trees.roots[0], trees.roots[1])
 
 
 def mismatches(pattern, text, place, *, limit=16):

@@ -4,18 +4,24 @@ from shortheld.sought import Sought
 from shortheld.trees import Trees
 
 
+def counts_of(pattern, text):
+    """The occurrences of a pattern with letters in a text that is not shorter, in a store of both."""
+    trees = Trees([pattern, text])
+    return Counts(trees, trees.roots[0], trees.roots[1])
+
+
 class Counts:
-    """The occurrences of a pattern with letters in a text that is not shorter.
+    """The occurrences of a pattern with letters in a text that is not shorter, both told by their roots.
 
     For each symbol of the text that is long enough, `totals` tells how many there are in it, and `crossing` the
     progression of those that lie within none of its parts; for a run, of those alone that begin in its first part.
     """
 
-    def __init__(self, pattern, text):
-        self.trees = Trees([pattern, text])
-        self.length = pattern.length
-        self.root = self.trees.roots[1]
-        self.sought = Sought(self.trees, self.trees.roots[0], 0, pattern.length)
+    def __init__(self, trees, pattern, root):
+        self.trees = trees
+        self.length = trees.lengths[pattern]
+        self.root = root
+        self.sought = Sought(trees, pattern, 0, self.length)
         self.crossing = {}
         self.totals = {}
         for symbol in self.long_symbols():

@@ -1,7 +1,7 @@
 """Where a pattern stands in a text."""
 
 from shortheld.common import check_place
-from shortheld.counts import Counts
+from shortheld.counts import counts_of
 from shortheld.errors import Empty, NoPart, NoPlace
 from shortheld.sought import NOTHING, Sought
 from shortheld.trees import Trees
@@ -31,7 +31,7 @@ def next_occurrence(pattern, text, start):
     check_place(text, start)
     if start + pattern.length > text.length:
         return None
-    counts = Counts(pattern, text)
+    counts = counts_of(pattern, text)
     number = counts.many_ahead(start)
     return counts.nth(number) if number < counts.total else None
 
@@ -42,7 +42,7 @@ def last_occurrence(pattern, text, stop):
     check_place(text, stop)
     if pattern.length > stop:
         return None
-    counts = Counts(pattern, text)
+    counts = counts_of(pattern, text)
     number = counts.many_ahead(stop - pattern.length + 1)
     return counts.nth(number - 1) if number else None
 
@@ -54,7 +54,7 @@ def count_occurrences(pattern, text, start, stop):
         raise NoPart(start, stop)
     if pattern.length > stop - start:
         return 0
-    counts = Counts(pattern, text)
+    counts = counts_of(pattern, text)
     return counts.many_ahead(stop - pattern.length + 1) - counts.many_ahead(start)
 
 
@@ -63,5 +63,5 @@ def nth_occurrence(pattern, text, number):
     check_pattern(pattern)
     if number < 0 or pattern.length > text.length:
         return None
-    counts = Counts(pattern, text)
+    counts = counts_of(pattern, text)
     return counts.nth(number) if number < counts.total else None

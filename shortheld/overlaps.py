@@ -9,27 +9,29 @@ def overlaps_of(first, second):
     """The tuple of the progressions of all overlaps of two texts."""
     if first.length == 0 or second.length == 0:
         return ()
-    overlaps = Overlaps(Trees([first, second]))
-    rows = []
-    size = 1
-    while size <= overlaps.most:
-        rows.append(overlaps.from_size(size))
-        size *= 2
+    trees = Trees([first, second])
+    overlaps = Overlaps(trees, trees.roots[0], trees.roots[1])
+    rows = [overlaps.from_size(size) for size in overlaps.sizes]
     return cut([row for row in rows if row[2]])
 
 
 class Overlaps:
-    """The overlaps of two texts with letters, the first and the second text of a store.
+    """The overlaps of two texts with letters, told by their roots.
 
     Overlaps with at least `size` letters and less than twice as many are found by the beginning of the second text
     that has so many letters: it stands where they start, and these places are at equal distances.
     """
 
-    def __init__(self, trees):
+    def __init__(self, trees, first, second):
         self.trees = trees
-        self.first, self.second = trees.roots
-        self.end = trees.lengths[self.first]
-        self.most = min(self.end, trees.lengths[self.second])
+        self.first = first
+        self.second = second
+        self.end = trees.lengths[first]
+        self.most = min(self.end, trees.lengths[second])
+        # All sizes 1, 2, 4 .. of which there are overlaps with at least so many letters, perhaps.
+        self.sizes = [1]
+        while 2 * self.sizes[-1] <= self.most:
+            self.sizes.append(2 * self.sizes[-1])
 
     def from_size(self, size):
         """The progression of the overlaps with at least so many letters, and less than twice as many."""

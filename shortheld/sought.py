@@ -21,7 +21,7 @@ class Sought:
         low, high = self.stretch_around(symbol, start + self.place, self.size)
         self.low = max(low - start, 0)
         self.high = min(high - start, self.length)
-        self.holds = self.holders()
+        self.has_anchor = self.holders()
 
     def stretch_around(self, symbol, place, size):
         """From where up to where the letters of a symbol are those of the anchor's symbol again and again.
@@ -64,7 +64,7 @@ class Sought:
             now, times, place = waiting.pop()
             if self.is_anchor(now, times):
                 runs.append((place, times))
-            elif self.holds[now]:
+            elif self.has_anchor[now]:
                 size = self.trees.lengths[now]
                 most = min(times, (stop - place + size - 1) // size)
                 for number in range(max(0, (start - place) // size), most):

@@ -39,6 +39,30 @@ class Trees:
         """The common ending of what two symbols stand for, up to two places."""
         return read_common(self.parts, self.lengths, self.line_to(symbol, stop), self.line_to(other, at))
 
+    def beginning_of(self, root, other):
+        """The common beginning of the texts of two roots, which are None for empty texts."""
+        if root is None or other is None:
+            return 0
+        return self.common_from(root, 0, other, 0)
+
+    def difference(self, root, other):
+        """The first place at which the texts of two roots differ, None if they are the same."""
+        return None if root == other else self.beginning_of(root, other)
+
+    def order(self, root, other):
+        """-1 if the text of a root comes ahead of that of another one, 1 if it comes behind it, 0 if it is the same."""
+        if root == other:
+            return 0
+        if root is None or other is None:
+            return -1 if root is None else 1
+        line = self.line_from(root, 0)
+        other_line = self.line_from(other, 0)
+        self.read_forwards(line, other_line)
+        if not line or not other_line:
+            return 1 if line else -1
+        # Letters are numbered in ascending order.
+        return -1 if line[-1][0] < other_line[-1][0] else 1
+
     def node_at(self, symbol, place, level):
         """What covers a place of a symbol in its row behind so many steps: its symbol, and where it starts.
 

@@ -236,7 +236,7 @@ class File:
 
     def check_name(self, node, name):
         self.need("L17", node, name not in BARRED_NAMES)
-        self.need("L12", node, re.fullmatch(r"_|_?[A-Za-z][A-Za-z0-9_]*|__init__", name) and not BARRED_STARTS.match(name))
+        self.need("L12", node, re.fullmatch(r"_|_?[A-Za-z][A-Za-z0-9_]*|__(init|len)__", name) and not BARRED_STARTS.match(name))
 
     def sizes(self):
         lines = self.source.split("\n")
@@ -373,8 +373,13 @@ class File:
     def double_underscore_methods(self):
         for node in self.functions:
             if node.name.startswith("__"):
-                self.need("L5", node, node.name == "__init__" and isinstance(self.parents[node], ast.ClassDef))
-                self.need("L28", node, not [part for part in ast.walk(node) if isinstance(part, ast.Return)])
+                self.need("L5", node, node.name in ("__init__", "__len__"))
+                self.need("L28", node, isinstance(self.parents[node], ast.ClassDef))
+                if node.name == "__init__":
+                    self.need("L28", node, not [part for part in ast.walk(node) if isinstance(part, ast.Return)])
+                else:
+                    self.need("L28", node, isinstance(node.body[-1], ast.Return) and len(node.body) == 1
+                              and is_call(node.body[-1].value, "len"))
 
 
 def defined_in(file):

@@ -77,3 +77,54 @@ def joined(pattern, first, second, most):
     crossing = len(occurrences(pattern, first[2] + second[1]))
     return (first[0] + second[0] + crossing, (first[1] + second[1])[:most] if len(first[1]) < most else first[1],
             (first[2] + second[2])[-most:] if most and len(second[2]) < most else second[2])
+
+
+def periods(string):
+    return [number for number in range(1, len(string) + 1)
+            if all(string[place] == string[place + number] for place in range(len(string) - number))]
+
+
+def root(string):
+    """The length of the root, and the exponent."""
+    return next((size, len(string) // size) for size in range(1, len(string) + 1)
+                if len(string) % size == 0 and string == string[:size] * (len(string) // size))
+
+
+def rotation(first, second):
+    if not first and not second:
+        return 0
+    return next((number for number in range(len(first)) if first[number:] + first[:number] == second), None)
+
+
+def stretch_around(string, start, stop):
+    period = periods(string[start:stop])[0]
+    if stop - start < 2 * period:
+        return None
+    while start > 0 and string[start - 1] == string[start - 1 + period]:
+        start -= 1
+    while stop < len(string) and string[stop] == string[stop - period]:
+        stop += 1
+    return (period, start, stop)
+
+
+def ordering(strings):
+    numbers = sorted(range(len(strings)), key=lambda number: (strings[number], number))
+    return (tuple(numbers), tuple([common_from(strings[left], 0, strings[right], 0)
+                                   for left, right in zip(numbers, numbers[1:])]))
+
+
+def beginnings(strings):
+    return len({string[:size] for string in strings for size in range(1, len(string) + 1)})
+
+
+def beginners(strings, pattern):
+    start = len([string for string in strings if string < pattern])
+    return (start, start + len([string for string in strings if string.startswith(pattern)]))
+
+
+def palindrome(string, centre):
+    """From where up to where the greatest palindrome around a centre goes."""
+    start, stop = centre // 2, (centre + 1) // 2
+    while start > 0 and stop < len(string) and string[start - 1] == string[stop]:
+        start, stop = start - 1, stop + 1
+    return (start, stop)

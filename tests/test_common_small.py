@@ -8,19 +8,7 @@ from shortheld.errors import HeldError, NoPlace
 from shortheld.text import LETTERS, Text
 from tests import slow
 from tests.helpers import all_made, random_rules, rng_of
-
-
-def letters(string):
-    return Text.of_letters(string)
-
-
-def by_rules(string):
-    """The text of a string by rules of all kinds."""
-    size, half = len(string), len(string) // 2
-    rules = [("letters", string[::-1] + "~"), ("power", 0, 3), ("back", 1), ("part", 2, 1, 1 + half),
-             ("part", 2, size + 2 + half, 2 * size + 2), ("join", 3, 4)]
-    assert all_made(rules)[-1] == string
-    return Text(rules)
+from tests.ways import by_rules, letters
 
 
 def random_texts(seed, largest):

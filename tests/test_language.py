@@ -21,6 +21,9 @@ class Box:
         self.rows = list(rows)
         self.most = most + MOST
 
+    def __len__(self):
+        return len(self.rows)
+
     def many(self):
         """How many."""
         return len(self.rows)
@@ -75,7 +78,8 @@ BROKEN = {
     "L25": ("x = x.sort()", "x = x.format(1)", "x = x.bit_count()", "x = 'a'.split(sep='b')", "x = x.append"),
     "L26": ("x.items = 1", "x.sort = 1", "x.real = 1"),
     "L27": ("x = 2 ** x", "x = 2 ** 65", "x = '%'", "x = '\\x41'", "x = '__x'", "x = 2 ** -1"),
-    "L28": ("class A:\n    def __init__(self):\n        return\n",),
+    "L28": ("class A:\n    def __init__(self):\n        return\n", "class A:\n    def __len__(self):\n        return 1 + 1\n",
+            "class A:\n    def __len__(self):\n        self.n = 1\n        return len([])\n", "def __len__(x):\n    return len(x)\n"),
 }
 
 

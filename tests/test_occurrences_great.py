@@ -9,12 +9,9 @@ from shortheld.text import Text
 from tests import slow
 from tests.great import MOST, Sums, great_rules, hard_rules, retold, swapped, words_joined
 from tests.helpers import random_rules, rng_of
+from tests.ways import letters
 
 FAR = 10 ** 11
-
-
-def letters(string):
-    return Text.of_letters(string)
 
 
 def count_all(pattern, text):

@@ -8,10 +8,7 @@ from shortheld.occurrences import (count_occurrences, last_occurrence, next_occu
 from shortheld.text import Text
 from tests import slow
 from tests.helpers import all_made, random_rules, rng_of
-
-
-def letters(string):
-    return Text.of_letters(string)
+from tests.ways import letters
 
 
 def pattern_and_text(seed, largest):

@@ -8,8 +8,12 @@ from shortheld.common import (common_from, common_to, compare, first_difference,
                               turned)
 from shortheld.occurrences import (count_occurrences, last_occurrence, next_occurrence, nth_occurrence,
                                    occurrences_around)
+from shortheld.ordering import Shelf, beginners, beginnings, begins_with, ordering
 from shortheld.overlaps import overlaps_of
+from shortheld.palindromes import is_palindrome, palindrome_at, stretch_at
+from shortheld.periods import commute, is_period, least_period, periods_of, primitive_root, rotation_of
 from shortheld.progressions import cut
+from shortheld.stretches import stretch_around
 from shortheld.text import Text
 from tests.great import MOST, great_rules, hard_rules, swapped, words_joined
 from tests.helpers import rng_of, size_made
@@ -55,7 +59,7 @@ class TestTime(unittest.TestCase):
     def timed(self, function, *told, **more):
         start = time.monotonic()
         found = function(*told, **more)
-        self.assertLess(time.monotonic() - start, SECONDS, (function.__name__, told[0].rules))
+        self.assertLess(time.monotonic() - start, SECONDS, (function.__name__, told))
         return found
 
     def check_common(self, first, second):
@@ -77,6 +81,22 @@ class TestTime(unittest.TestCase):
         self.timed(last_occurrence, pattern, text, size // 2)
         self.timed(nth_occurrence, pattern, text, total // 2)
 
+    def check_periods(self, text):
+        size = text.length
+        for function in (least_period, periods_of, primitive_root, is_palindrome):
+            self.timed(function, text)
+        for number in (1, size // 3, size):
+            self.timed(is_period, text, number)
+        for start, stop in ((0, size), (size // 3, size // 2), (size // 2, size // 2 + 20), (size // 9, size - size // 9)):
+            self.timed(stretch_around, text, start, stop)
+        for centre in (1, size, size + size // 3, 2 * size - 1):
+            self.timed(palindrome_at, text, centre)
+            self.timed(stretch_at, text, centre)
+
+    def check_two(self, first, second):
+        for function in (commute, rotation_of, begins_with):
+            self.timed(function, first, second)
+
     def test_great_enough(self):
         sizes = [text.length for text in great_texts()]
         self.assertGreater(len([size for size in sizes if size > 10 ** 11]), 4)
@@ -86,6 +106,9 @@ class TestTime(unittest.TestCase):
         for text in great_texts():
             size = text.length
             self.check_common(text, turned(text))
+            self.check_periods(text)
+            self.check_two(text, turned(text))
+            self.check_two(text, text)
             self.timed(overlaps_of, text, text)
             self.timed(overlaps_of, text, stretch(text, size // 3, size - size // 5))
             for start, stop in ((size // 2, size // 2 + 3), (size // 3, size // 3 + 1000), (size // 9, size // 2)):
@@ -95,9 +118,24 @@ class TestTime(unittest.TestCase):
         texts = great_texts()
         for first, second in zip(texts, texts[1:] + texts[:1]):
             self.check_common(first, second)
+            self.check_two(first, second)
             self.timed(overlaps_of, first, second)
             self.check_occurrences(first, second)
             self.check_occurrences(stretch(second, 0, min(5, second.length)), first)
+
+    def test_many_texts(self):
+        texts = great_texts()
+        texts += [stretch(text, 0, text.length - text.length // 5) for text in texts]
+        self.timed(ordering, texts)
+        self.timed(beginnings, texts)
+        self.timed(beginners, texts, stretch(texts[0], 0, texts[0].length // 2))
+        shelf = Shelf()
+        for text in texts:
+            self.timed(shelf.put, text)
+        for text in texts:
+            for function in (shelf.place, shelf.holds, shelf.drop):
+                self.timed(function, text)
+            self.timed(shelf.between, text, turned(text))
 
     def test_many_rows(self):
         rows = [(7 * number, 1, 3) for number in range(20000)]
@@ -120,7 +158,11 @@ class TestDepth(unittest.TestCase):
                 part = stretch(text, text.length // 3, text.length // 2)
                 compare(text, turned(text))
                 overlaps_of(text, part)
+                ordering([text, part])
                 if part.length:
+                    periods_of(part)
+                    rotation_of(part, turned(part))
+                    stretch_around(text, text.length // 3, text.length // 2)
                     count_occurrences(part, text, 0, text.length)
         finally:
             sys.setrecursionlimit(before)
