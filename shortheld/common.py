@@ -1,7 +1,7 @@
 """Where texts differ, what they have in common, and which comes first."""
 
-from shortheld.errors import NoPlace
-from shortheld.text import Text
+from shortheld.errors import NoPart, NoPlace
+from shortheld.text import Text, is_part
 from shortheld.trees import Trees
 
 
@@ -9,6 +9,12 @@ def check_place(text, place):
     """Raise NoPlace for a place that is neither one of a text nor its length."""
     if not 0 <= place <= text.length:
         raise NoPlace(place)
+
+
+def check_part(text, start, stop):
+    """Raise NoPart for a part that a text does not have."""
+    if not is_part(start, stop, text.length):
+        raise NoPart(start, stop)
 
 
 def common_from(first, start, second, at):

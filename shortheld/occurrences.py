@@ -1,8 +1,8 @@
 """Where a pattern stands in a text."""
 
-from shortheld.common import check_place
+from shortheld.common import check_part, check_place
 from shortheld.counts import counts_of
-from shortheld.errors import Empty, NoPart, NoPlace
+from shortheld.errors import Empty, NoPlace
 from shortheld.sought import NOTHING, Sought
 from shortheld.trees import Trees
 
@@ -50,8 +50,7 @@ def last_occurrence(pattern, text, stop):
 def count_occurrences(pattern, text, start, stop):
     """How many occurrences of a pattern lie within a part of a text."""
     check_pattern(pattern)
-    if not 0 <= start <= stop <= text.length:
-        raise NoPart(start, stop)
+    check_part(text, start, stop)
     if pattern.length > stop - start:
         return 0
     counts = counts_of(pattern, text)

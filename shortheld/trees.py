@@ -13,6 +13,7 @@ class Trees:
 
     def __init__(self, texts):
         store = Store(texts)
+        self.rounds = store.rounds
         self.roots = store.roots
         self.lengths = store.lengths
         self.levels = levels_of(store.ends)

@@ -411,8 +411,12 @@ def class_names(file):
 
 
 def error_names(package):
-    return {node.name for file in package.values() for node in file.classes
-            if [base for base in node.bases if base.id in ("ValueError", "HeldError")]}
+    """The names of the own errors: classes that are under ValueError, directly or through other ones."""
+    bases = {node.name: [base.id for base in node.bases] for file in package.values() for node in file.classes}
+    found = {"ValueError"}
+    for _ in bases:
+        found |= {name for name in bases if found & set(bases[name])}
+    return found - {"ValueError"}
 
 
 def attributes_of(node):

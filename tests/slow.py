@@ -128,3 +128,80 @@ def palindrome(string, centre):
     while start > 0 and stop < len(string) and string[start - 1] == string[stop]:
         start, stop = start - 1, stop + 1
     return (start, stop)
+
+
+def spelled_by(strings, cut):
+    """The strings that a cut spells, letter by letter, None if some phrase copies what is not there."""
+    made = []
+    for number, row in enumerate(cut):
+        if made != strings[:number]:
+            return None
+        made.append("")
+        for word, *told in row:
+            if word == "letter":
+                made[number] += told[0]
+                continue
+            source, start, many = told
+            if many < 1 or start < 0 or not 0 <= source <= number or start >= len(made[source]):
+                return None
+            if source < number and start + many > len(strings[source]):
+                return None
+            # A wrong copy can have more letters than anybody can go through.
+            for place in range(start, start + min(many, 1000)):
+                made[number] += made[source][place]
+    return made
+
+
+def longest_copy(strings, number, place):
+    """The longest copy for a place of a string, as (source, start, many), by trying all."""
+    best = (0, 0, 0)
+    for source in range(number + 1):
+        for start in range(len(strings[source]) if source < number else place):
+            many = common_from(strings[source], start, strings[number], place)
+            if many > best[2]:
+                best = (source, start, many)
+    return best
+
+
+def shortest_cut(strings):
+    rows = []
+    for number, string in enumerate(strings):
+        row, place = [], 0
+        while place < len(string):
+            source, start, many = longest_copy(strings, number, place)
+            row.append(("copy", source, start, many) if many > 1 else ("letter", string[place]))
+            place += max(many, 1)
+        rows.append(tuple(row))
+    return tuple(rows)
+
+
+def fewest_phrases(strings, number):
+    """The least number of phrases that spell a string, by trying each length of each first phrase."""
+    string = strings[number]
+    fewest = [0] * (len(string) + 1)
+    for place in range(len(string) - 1, -1, -1):
+        many = max(1, longest_copy(strings, number, place)[2])
+        fewest[place] = 1 + min(fewest[place + size] for size in range(1, many + 1))
+    return fewest[0]
+
+
+def phrases_spelled(string, phrases):
+    """What right phrases spell beside a string, letter by letter."""
+    made = ""
+    for word, *told in phrases:
+        if word == "letter":
+            made += told[0]
+        else:
+            source, start, many = told
+            for place in range(start, start + many):
+                made += (made if source else string)[place]
+    return made
+
+
+def first_difference(string, other):
+    place = common_from(string, 0, other, 0)
+    return None if string == other else place
+
+
+def first_occurrence(pattern, string):
+    return string.find(pattern) if pattern and pattern in string else None
