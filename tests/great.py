@@ -1,6 +1,6 @@
 """Rules of great texts, other rules for the same letters, and sums that tell whether parts of them are the same."""
 
-from tests.helpers import size_made
+from tests.helpers import rng_of, size_made
 
 MANY = 10 ** 10
 MOST = 10 ** 12
@@ -90,6 +90,12 @@ def swapped(many):
         last = len(rules) - 2
         rules += [("join", last, last + 1), ("join", last + 1, last)]
     return rules[:-1]
+
+
+def kinds_of_rules(many):
+    """Pairs of a seed and rules of a great text, twice so many by chance and two more."""
+    kinds = [(seed, kind(rng_of(seed))) for seed in range(many) for kind in (great_rules, hard_rules)]
+    return kinds + [(0, words_joined(56)), (1, swapped(28))]
 
 
 class Sums:

@@ -5,7 +5,7 @@ import unittest
 from shortheld.changes import insert_at, move_part, part_of, remove_part, repeat_part, replace_part, turn_part
 from shortheld.common import first_difference, same, turned
 from shortheld.text import Text
-from tests.great import MOST, great_rules, hard_rules, retold, swapped, words_joined
+from tests.great import MOST, hard_rules, kinds_of_rules, retold, words_joined
 from tests.helpers import rng_of
 
 FAR = 10 ** 11
@@ -53,13 +53,6 @@ class Pieces:
 
 
 class TestManyChanges(unittest.TestCase):
-    def kinds(self):
-        for seed in range(6):
-            yield seed, great_rules(rng_of(seed))
-            yield seed, hard_rules(rng_of(seed))
-        yield 0, words_joined(50)
-        yield 1, swapped(28)
-
     def changed(self, rng, text, pieces):
         """A text and its pieces with some change of both."""
         size = text.length
@@ -84,7 +77,7 @@ class TestManyChanges(unittest.TestCase):
         return move_part(text, start, stop, place), rest.around(place, place, part)
 
     def test_changes_of_changed_texts(self):
-        for seed, rules in self.kinds():
+        for seed, rules in kinds_of_rules(6):
             rng, first = rng_of(seed), Text(rules)
             text, pieces = first, Pieces([(0, first.length, False)])
             for _ in range(25):
@@ -115,7 +108,7 @@ class TestManyChanges(unittest.TestCase):
             self.assertIsNone(first_difference(text, first))
 
     def test_the_same_part_turned_again_and_again(self):
-        for _, rules in self.kinds():
+        for _, rules in kinds_of_rules(6):
             first = text = Text(rules)
             for number in range(100):
                 text = turn_part(text, text.length // 7, text.length - text.length // 5)

@@ -6,7 +6,7 @@ from shortheld.common import mismatches, stretch, turned
 from shortheld.overlaps import overlaps_of
 from shortheld.text import Text
 from tests import slow
-from tests.great import MOST, Sums, great_rules, hard_rules, retold, swapped, words_joined
+from tests.great import MOST, Sums, kinds_of_rules, retold, words_joined
 from tests.helpers import all_made, random_rules, rng_of
 from tests.ways import letters
 
@@ -126,16 +126,9 @@ class TestGreatTexts(OverlapsTest):
             for number in want:
                 self.assertEqual(mismatches(stretch(text, 0, number), text, text.length - number), ())
 
-    def kinds(self):
-        for seed in range(8):
-            yield seed, great_rules(rng_of(seed))
-            yield seed, hard_rules(rng_of(seed))
-        yield 0, words_joined(56)
-        yield 1, swapped(28)
-
     def test_overlaps_put_in(self):
         """Texts that are made so that they have an overlap have it, and the sums of all that are told are the same."""
-        for seed, rules in self.kinds():
+        for seed, rules in kinds_of_rules(8):
             text, sums, rng = Text(rules), Sums(rules), rng_of(seed)
             start, stop = sorted([rng.randint(0, text.length), rng.randint(0, text.length)])
             first, second = stretch(text, 0, stop), stretch(text, start, text.length)

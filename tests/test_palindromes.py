@@ -7,7 +7,7 @@ from shortheld.errors import HeldError
 from shortheld.palindromes import NoCentre, is_palindrome, palindrome_at, stretch_at
 from shortheld.text import Text
 from tests import slow
-from tests.great import MANY, MOST, Sums, great_rules, hard_rules, retold, swapped, words_joined
+from tests.great import MANY, MOST, Sums, kinds_of_rules, retold
 from tests.helpers import rng_of
 from tests.ways import by_rules, letters, random_text, repeated, short_strings, ways
 
@@ -122,15 +122,8 @@ class TestGreatTexts(unittest.TestCase):
         self.assertIs(is_palindrome(Text([*power, ("part", 1, 1, MOST)])), True)
         self.assertIs(is_palindrome(Text([*power, ("part", 1, 1, MOST - 1)])), False)
 
-    def kinds(self):
-        for seed in range(8):
-            yield seed, great_rules(rng_of(seed))
-            yield seed, hard_rules(rng_of(seed))
-        yield 0, words_joined(56)
-        yield 1, swapped(28)
-
     def test_what_is_told_is_a_palindrome(self):
-        for seed, rules in self.kinds():
+        for seed, rules in kinds_of_rules(8):
             rng, text = rng_of(seed), Text(rules)
             other, sums = Text.made(retold(rules)), Sums([*rules, ("back", len(rules) - 1)])
             size, forth = text.length, Sums(rules)
@@ -147,7 +140,7 @@ class TestGreatTexts(unittest.TestCase):
                 self.assertIs(is_palindrome(stretch(text, start, stop)), True)
 
     def test_texts_and_the_same_turned_round(self):
-        for _, rules in self.kinds():
+        for _, rules in kinds_of_rules(8):
             last, size = len(rules) - 1, Text(rules).length
             if 0 < size < MOST // 2:
                 even = Text.made([*rules, ("back", last), ("join", last, last + 1)])

@@ -7,7 +7,7 @@ from shortheld.periods import commute, is_period, least_period, periods_of, prim
 from shortheld.progressions import cut
 from shortheld.text import Text
 from tests import slow
-from tests.great import MANY, MOST, Sums, great_rules, hard_rules, retold, swapped, words_joined
+from tests.great import MANY, MOST, Sums, kinds_of_rules, retold, words_joined
 from tests.helpers import rng_of
 
 FAR = 10 ** 11
@@ -102,15 +102,8 @@ class TestPowers(unittest.TestCase):
 
 
 class TestGreatTexts(unittest.TestCase):
-    def kinds(self):
-        for seed in range(8):
-            yield seed, great_rules(rng_of(seed))
-            yield seed, hard_rules(rng_of(seed))
-        yield 0, words_joined(56)
-        yield 1, swapped(28)
-
     def test_all_periods_are_periods(self):
-        for _, rules in self.kinds():
+        for _, rules in kinds_of_rules(8):
             text, sums = Text(rules), Sums(rules)
             if text.length:
                 found, size = periods_of(text), text.length
@@ -124,7 +117,7 @@ class TestGreatTexts(unittest.TestCase):
                 self.assertEqual(periods_of(turned(text)), found)
 
     def test_powers_of_texts(self):
-        for seed, rules in self.kinds():
+        for seed, rules in kinds_of_rules(8):
             text = Text(rules)
             times = rng_of(seed).choice((2, 3, 10))
             if 0 < text.length * times <= MOST:
@@ -140,7 +133,7 @@ class TestGreatTexts(unittest.TestCase):
                 self.assertEqual(primitive_root(stretch(power, 0, power.length - 1))[1] > 1, root == 1 and power.length > 2)
 
     def test_commute(self):
-        for seed, rules in self.kinds():
+        for seed, rules in kinds_of_rules(8):
             text, rng = Text(rules), rng_of(seed)
             if text.length > 1:
                 root = primitive_root(text)[0]
@@ -182,7 +175,7 @@ class TestGreatTexts(unittest.TestCase):
         self.assertEqual(rotation_of(other, Text(other.rules[:2])), 1)
 
     def test_each_rotation_is_found(self):
-        for seed, rules in self.kinds():
+        for seed, rules in kinds_of_rules(8):
             text, rng = Text(rules), rng_of(seed)
             if text.length:
                 root, last = primitive_root(text)[0], len(rules) - 1

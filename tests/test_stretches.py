@@ -8,7 +8,7 @@ from shortheld.periods import is_period, least_period
 from shortheld.stretches import stretch_around
 from shortheld.text import Text
 from tests import slow
-from tests.great import MANY, MOST, great_rules, hard_rules, retold, swapped, words_joined
+from tests.great import MANY, MOST, kinds_of_rules, retold
 from tests.helpers import rng_of
 from tests.ways import by_rules, letters, random_text, repeated, short_strings, ways
 
@@ -116,15 +116,8 @@ class TestGreatTexts(unittest.TestCase):
         self.assertIsNone(stretch_around(text, 100, 100 + 4001))
         self.assertEqual(stretch_around(text, 100, size - 100), (2001, 0, size))
 
-    def kinds(self):
-        for seed in range(10):
-            yield seed, great_rules(rng_of(seed))
-            yield seed, hard_rules(rng_of(seed))
-        yield 0, words_joined(56)
-        yield 1, swapped(28)
-
     def test_what_is_told_has_the_period(self):
-        for seed, rules in self.kinds():
+        for seed, rules in kinds_of_rules(10):
             rng, text = rng_of(seed), Text(rules)
             if text.length > 100:
                 for _ in range(4):
@@ -148,7 +141,7 @@ class TestGreatTexts(unittest.TestCase):
             self.assertEqual(stretch_around(turned(text), size - stop, size - start), (period, size - high, size - low))
 
     def test_squares_put_in(self):
-        for seed, rules in self.kinds():
+        for seed, rules in kinds_of_rules(10):
             if 0 < Text(rules).length <= MOST // 4:
                 last = len(rules) - 1
                 text = Text.made([*rules, ("power", last, 2), ("letters", "~"), ("join", last + 1, last + 2),
