@@ -6,9 +6,6 @@ from shortheld.trees import Trees
 
 MOST_CUT = 4096
 
-# It is no letter, so that no copy goes across the end of a text.
-SEAM = "\n"
-
 
 class TooManyLetters(HeldError):
     """The texts have more letters together than are cut."""
@@ -72,7 +69,8 @@ def shortest_cut(texts):
     if sum([text.length for text in texts]) > MOST_CUT:
         raise TooManyLetters("more than 4096 letters together")
     strings = [spelled(text, 0, text.length) for text in texts]
-    whole = SEAM.join(strings)
+    # The line feed is no letter, so that no copy goes across the end of a text.
+    whole = "\n".join(strings)
     places = []
     rows = []
     for number, string in enumerate(strings):

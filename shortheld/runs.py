@@ -1,8 +1,5 @@
 """The first step of a round: runs."""
 
-from shortheld.steps import run_of
-
-
 class Runs:
     """The runs of a round, numbered on from the symbols that are there."""
 
@@ -17,17 +14,17 @@ class Runs:
         symbol = None
         times = 0
         for item in row:
-            if isinstance(item, (int, tuple)):
-                now, many = run_of(item)
-                if now == symbol:
-                    times += many
-                    out[-1] = (symbol, times)
-                else:
-                    symbol = now
-                    times = many
-                    out.append(item)
+            now = item
+            many = 1
+            if isinstance(item, tuple):
+                now, many = item
+            # What is no symbol never stands beside itself: there are the symbols that were taken out of it.
+            if now == symbol:
+                times += many
+                out[-1] = (symbol, times)
             else:
-                symbol = None
+                symbol = now
+                times = many
                 out.append(item)
         return out
 
@@ -39,18 +36,15 @@ class Runs:
         """The last item likewise."""
         return 1
 
-    def look(self, row):
-        """Take down the runs of a row."""
+    def marked(self, row):
+        """The row, the runs of which are marked already, and are taken down."""
         for item in row:
             if isinstance(item, tuple):
                 self.found[item] = True
+        return row
 
     def name_new(self):
         """Give the runs their numbers."""
         runs = sorted(self.found)
         self.new = [("run", symbol, times) for symbol, times in runs]
         self.found = {run: self.many + k for k, run in enumerate(runs)}
-
-    def rewritten(self, row):
-        """The row with runs as symbols."""
-        return [self.found[item] if isinstance(item, tuple) else item for item in row]

@@ -1,6 +1,6 @@
 """The seams between neighbours, and the sides on which they put the symbols."""
 
-from shortheld.pieces import Piece
+from shortheld.pieces import Piece, is_one_symbol
 
 
 def seams_of(rows):
@@ -19,33 +19,34 @@ def ends_of(item):
     """The first and the last symbol of what an item stands for."""
     if isinstance(item, int):
         return (item, item)
-    if isinstance(item, Piece):
-        return (item.first, item.last)
-    return (item.piece.first, item.piece.last)
+    piece = item if isinstance(item, Piece) else item.piece
+    return (piece.first, piece.last)
 
 
 def count_seams(seams, row, weight):
     """Add the seams of a row that stands so often."""
     left = None
     for item in row:
-        first, last = ends_of(item)
+        first = last = item
+        if not isinstance(item, int):
+            first, last = ends_of(item)
+            if not isinstance(item, Piece):
+                count_seams(seams, [item.piece, *item.gap, item.piece], weight * (item.times - 1))
         if left is not None:
-            seams[(left, first)] = seams.get((left, first), 0) + weight
+            seam = (left, first)
+            seams[seam] = seams.get(seam, 0) + weight
         left = last
-        if not isinstance(item, (int, Piece)):
-            count_seams(seams, [item.piece, *item.gap, item.piece], weight * (item.times - 1))
 
 
-def symbols_of(rows):
-    """The symbols that stand in the rows of the texts, ascending."""
+def symbols_of(rows, seams):
+    """The symbols that stand in the rows of the texts, ascending: those beside a seam, and those of rows of one."""
     found = {}
-    for piece in rows.pieces + rows.tops:
-        for item in piece.body:
-            if isinstance(item, int):
-                found[item] = True
-            elif not isinstance(item, Piece):
-                for symbol in item.gap:
-                    found[symbol] = True
+    for left, right in seams:
+        found[left] = True
+        found[right] = True
+    for top in rows.tops:
+        if is_one_symbol(top.body):
+            found[top.body[0]] = True
     return sorted(found)
 
 

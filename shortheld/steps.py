@@ -6,36 +6,44 @@ one symbol stand side by side in one list, and are rewritten there.
 
 A step is an object with these methods: `tidied(row)`, the row with equal neighbours brought together, where the
 step wants this; `many_before(row)` and `many_behind(row)`, how many items of a row are to be taken out of its
-beginning and of its end; `look(row)`, which takes down the new symbols of a row; `name_new()`, which gives them
-their numbers when all rows are looked at; and then `rewritten(row)`, the row with the new symbols.
+beginning and of its end; `marked(row)`, the row with tuples in place of what becomes a new symbol, which are taken
+down; and `name_new()`, which gives them their numbers, as the dict `found`, when all rows are marked.
 """
 
 from shortheld.pieces import Piece, Repeat
 
 
+class Kept:
+    """The pieces from which something was taken out, and the repeats in them and in the rows of the texts."""
+
+    def __init__(self):
+        self.pieces = []
+        self.repeats = []
+
+
 def take_step(rows, step):
     """Let a step make its new symbols in all rows."""
-    take_out(rows, step)
+    repeats = take_out(rows, step)
     pieces = rows.pieces + rows.tops
     for piece in pieces:
-        step.look(piece.body)
-        for repeat in repeats_of(piece.body):
-            step.look(repeat.gap)
+        piece.body = step.marked(piece.body)
+    for repeat in repeats:
+        repeat.gap = step.marked(repeat.gap)
     step.name_new()
     for piece in pieces:
-        piece.body = step.rewritten(piece.body)
-        for repeat in repeats_of(piece.body):
-            repeat.gap = step.rewritten(repeat.gap)
+        piece.body = named(piece.body, step.found)
+    for repeat in repeats:
+        repeat.gap = named(repeat.gap, step.found)
 
 
-def repeats_of(row):
-    """The repeats among the items of a row."""
-    return [item for item in row if isinstance(item, Repeat)]
+def named(row, numbers):
+    """The row with numbers for what is marked."""
+    return [numbers[item] if isinstance(item, tuple) else item for item in row]
 
 
 def take_out(rows, step):
-    """Take out of all pieces what becomes one symbol with something outside of them."""
-    kept = []
+    """Take out of all pieces what becomes one symbol with something outside of them. The list of all repeats."""
+    kept = Kept()
     for piece in rows.pieces:
         row = widened(piece, step, kept)
         start = step.many_before(row)
@@ -44,29 +52,30 @@ def take_out(rows, step):
             piece.before = row[:start]
             piece.body = row[start:stop]
             piece.behind = row[stop:]
-            kept.append(piece)
+            kept.pieces.append(piece)
         else:
             piece.before = row
             piece.body = []
             piece.behind = []
     for top in rows.tops:
         top.body = widened(top, step, kept)
-    rows.pieces = kept
+    rows.pieces = kept.pieces
+    return kept.repeats
 
 
 def widened(piece, step, kept):
     """The items of a piece, with what was taken out of the pieces in it."""
     row = []
     for item in piece.body:
-        if isinstance(item, Piece):
+        if isinstance(item, int):
+            row.append(item)
+        elif isinstance(item, Repeat):
+            row.extend(widened_repeat(item, piece.weight, step, kept))
+        else:
             row.extend(item.before)
             if item.body:
                 row.append(item)
                 row.extend(item.behind)
-        elif isinstance(item, Repeat):
-            row.extend(widened_repeat(item, piece.weight, step, kept))
-        else:
-            row.append(item)
     return step.tidied(row)
 
 
@@ -75,9 +84,16 @@ def widened_repeat(repeat, weight, step, kept):
     piece = repeat.piece
     if piece.body:
         gap = step.tidied(piece.behind + repeat.gap + piece.before)
-        return [*piece.before, Repeat(piece, gap, repeat.times), *piece.behind]
+        return [*piece.before, kept_repeat(piece, gap, repeat.times, kept), *piece.behind]
     block = step.tidied(repeat.gap + piece.before)
     return piece.before + repeated(block, repeat.times - 1, weight, step, kept)
+
+
+def kept_repeat(piece, gap, times, kept):
+    """A new repeat."""
+    repeat = Repeat(piece, gap, times)
+    kept.repeats.append(repeat)
+    return repeat
 
 
 def repeated(block, times, weight, step, kept):
@@ -106,8 +122,8 @@ def piece_repeated(body, gap, times, weight, kept):
         return body
     piece = Piece(body)
     piece.weight = weight * times
-    kept.append(piece)
-    return [Repeat(piece, gap, times)]
+    kept.pieces.append(piece)
+    return [kept_repeat(piece, gap, times, kept)]
 
 
 def run_of(item):

@@ -16,7 +16,8 @@ def runs_made(rows, many):
 
 def pairs_made(rows, many):
     """Make the pairs of a round in all rows. The new symbols, a list, numbered on from so many."""
-    step = Pairs(many, is_left_of(symbols_of(rows), seams_of(rows)))
+    seams = seams_of(rows)
+    step = Pairs(many, is_left_of(symbols_of(rows, seams), seams))
     take_step(rows, step)
     return step.new
 
