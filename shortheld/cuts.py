@@ -42,7 +42,7 @@ def many_spelled(trees, texts, number, place, phrase):
     if phrase[0] == "letter":
         return 1 if text.letter(place) == phrase[1] else 0
     _, copied, start, many = phrase
-    if not 1 <= many <= text.length - place or not is_source(texts, number, place, phrase):
+    if many < 1 or not is_source(texts, number, place, phrase):
         return 0
     return many if trees.common_from(trees.roots[number], place, trees.roots[copied], start) >= many else 0
 
