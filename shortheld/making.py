@@ -3,7 +3,7 @@
 from shortheld.plain import Plain
 from shortheld.text import MOST_SPELLED, Text, length_made
 
-# A text that has so many more rules than those that it is made of is told by fewer ones, if there are some.
+# Whenever the rules of a text come to another multiple of this number, it is told by fewer ones, if there are some.
 MANY_RULES = 500
 
 
@@ -30,7 +30,7 @@ class Making:
         """The number of the rule that makes a text."""
         self.most_taken = max(self.most_taken, len(text.rules))
         numbers = []
-        for rule in text.rules:
+        for rule in list(text.rules):
             numbers.append(self.number_of(renumbered(rule, numbers)))
         return numbers[-1]
 

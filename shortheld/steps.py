@@ -14,10 +14,10 @@ from shortheld.pieces import Piece, Repeat
 
 
 class Kept:
-    """The pieces from which something was taken out, and the repeats in them and in the rows of the texts."""
+    """What a step keeps: the pieces in which something is left, and all repeats."""
 
     def __init__(self):
-        self.pieces = []
+        self.alive = []
         self.repeats = []
 
 
@@ -52,14 +52,14 @@ def take_out(rows, step):
             piece.before = row[:start]
             piece.body = row[start:stop]
             piece.behind = row[stop:]
-            kept.pieces.append(piece)
+            kept.alive.append(piece)
         else:
             piece.before = row
             piece.body = []
             piece.behind = []
     for top in rows.tops:
         top.body = widened(top, step, kept)
-    rows.pieces = kept.pieces
+    rows.pieces = kept.alive
     return kept.repeats
 
 
@@ -122,7 +122,7 @@ def piece_repeated(body, gap, times, weight, kept):
         return body
     piece = Piece(body)
     piece.weight = weight * times
-    kept.pieces.append(piece)
+    kept.alive.append(piece)
     return [kept_repeat(piece, gap, times, kept)]
 
 
